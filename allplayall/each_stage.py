@@ -8,10 +8,14 @@ from allplayall.games import league_with, turned
 from allplayall.refusals import NO_SUCH, NOT_FIT
 
 
-def start(league, players):
-    if players < 1 or players > MOST_PLAYERS:
+def started_anew(league, players, most):
+    if players < 1 or players > most:
         return (league, [NOT_FIT])
     return (league_with(players, 0), [0])
+
+
+def start(league, players):
+    return started_anew(league, players, MOST_PLAYERS)
 
 
 def games(league, number):
@@ -51,4 +55,4 @@ def state(league):
 CHANGES_OF_EACH = {0: start, 1: games, 2: turn}
 QUESTIONS_OF_EACH = {3: beats, 4: wins}
 # A stage's state stands behind its other calls, so it has not the same number in each.
-STATES = {117: state, 217: state}
+STATES = {117: state, 217: state, 317: state, 416: state, 517: state, 617: state}

@@ -4,6 +4,8 @@ A league is a tuple with a tuple for each player: league[i][j] is 1 if i beat j,
 It is never changed; what changes a league makes another one, so that those of before can be kept as they were.
 """
 
+from allplayall.powers import two_to_the
+
 MOST_PLAYERS = 7
 
 
@@ -21,10 +23,7 @@ def how_many_games(players):
 
 
 def is_games_number(players, number):
-    end = 1
-    for step in range(how_many_games(players)):
-        end = end * 2
-    return number < end
+    return number < two_to_the(how_many_games(players))
 
 
 def settled(won):
@@ -66,6 +65,11 @@ def is_player(league, player):
 
 def are_players(league, one, other):
     return is_player(league, one) and is_player(league, other)
+
+
+def first_with_most(players, counts):
+    """The first of the players with the greatest of the counts, of which there is one for each."""
+    return players[counts.index(max(counts))]
 
 
 def turned(league, games):

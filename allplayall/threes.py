@@ -19,6 +19,20 @@ def all_threes(league):
     return found
 
 
+def threes_with(league, player):
+    """All rounds of three that the player is in."""
+    return [three for three in all_threes(league) if player in three]
+
+
+def are_all_among(three, members):
+    return all([player in members for player in three])
+
+
+def threes_among(league, members):
+    """All rounds of three of these players alone."""
+    return [three for three in all_threes(league) if are_all_among(three, members)]
+
+
 def three_turned(league, three):
     """The league with the three games of that round turned."""
     return turned(league, [(three[0], three[1]), (three[1], three[2]), (three[2], three[0])])

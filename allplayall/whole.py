@@ -3,12 +3,10 @@
 from allplayall.games import MOST_PLAYERS, games_number, games_that_differ, is_player, league_with, table_of
 from allplayall.making import one_behind, one_into, one_left_out
 from allplayall.refusals import NO_CHANGE, NO_SUCH, NOT_FIT, NOT_FOUND, TOO_MANY
-from allplayall.ways import ways_to
+from allplayall.ways import MOST_RENAMED, first_way
 
 MOST_LEAGUES = 4
 MOST_CHANGES = 20
-# Ways are told of no more players than Six has.
-MOST_RENAMED = 6
 
 
 class Whole:
@@ -119,10 +117,10 @@ def alike(whole, j, k):
         return [NO_SUCH]
     if not as_many_players(whole, j, k) or len(whole.leagues[j]) > MOST_RENAMED:
         return [NOT_FIT]
-    ways = ways_to(whole.leagues[j], whole.leagues[k])
-    if len(ways) == 0:
+    way = first_way(whole.leagues[j], whole.leagues[k])
+    if way is None:
         return [NOT_FOUND]
-    return [len(whole.leagues[j])] + ways[0]
+    return [len(way)] + way
 
 
 def differ(whole, j, k):

@@ -4,10 +4,9 @@ The Reference below follows the document's words as directly as it can, by going
 is: pairs of who beat whom, all orders of the players, all leagues. It shares no code with the program.
 """
 
-from copy import deepcopy
 from functools import lru_cache
 from itertools import combinations, permutations, product
-from math import comb
+from math import comb, factorial, lcm
 
 from allplayall.leagues import answers
 
@@ -19,7 +18,14 @@ STAGES = {
                  "between state".split()),
     "two": (200, "start games turn beats wins table can beyond make many threes three turnThree differ turns same "
                  "rank state".split()),
-    "three": (300, "start games turn beats wins threes nth of through would byWins".split()),
+    "three": (300, "start games turn beats wins threes nth of through would byWins most level calm fours within "
+                   "busiest state".split()),
+    "four": (400, "start games turn beats wins inOrder order most best many grown among leave all adds sure "
+                  "state".split()),
+    "five": (500, "start games turn beats wins covers left fewest first many greedy over any deep squares needs bare "
+                  "state".split()),
+    "six": (600, "start games turn beats wins selves nth order alikeTo same rename alike least back backAlike others "
+                 "classes state".split()),
 }
 
 
@@ -34,7 +40,7 @@ def all_numbers():
 NUMBERS = all_numbers()
 
 # What each call is given: l a league, p a player, n how many players, m a games' number, c how many are in a round,
-# k another number, R a row, W wins.
+# s a set, t up to a thousand, q 3 or 7, e up to twenty, k another number; R a row or a way, W wins, P players.
 OF_EACH = {"start": "ln", "games": "lm", "turn": "lpp", "beats": "lpp", "wins": "lp", "state": "l"}
 GIVEN = {
     "start": "", "league": "n", "copy": "l", "drop": "l", "joined": "ll", "into": "ll", "without": "lp",
@@ -46,15 +52,24 @@ GIVEN = {
     "two_three": "lk", "two_turnThree": "lk", "two_differ": "lm", "two_turns": "lm", "two_same": "lm",
     "two_rank": "lp",
     "three_threes": "l", "three_nth": "lk", "three_of": "lp", "three_through": "lpp", "three_would": "lpp",
-    "three_byWins": "lW",
+    "three_byWins": "lW", "three_most": "lt", "three_level": "l", "three_calm": "l", "three_fours": "l",
+    "three_within": "lP", "three_busiest": "l",
+    "four_inOrder": "ls", "four_order": "ls", "four_most": "l", "four_best": "l", "four_many": "lk", "four_grown": "l",
+    "four_among": "lp", "four_leave": "l", "four_all": "l", "four_adds": "ls", "four_sure": "lt",
+    "five_covers": "ls", "five_left": "ls", "five_fewest": "l", "five_first": "l", "five_many": "l",
+    "five_greedy": "l", "five_over": "ls", "five_any": "lk", "five_deep": "l", "five_squares": "lq",
+    "five_needs": "le", "five_bare": "l",
+    "six_selves": "l", "six_nth": "lk", "six_order": "lk", "six_alikeTo": "lp", "six_same": "lpp", "six_rename": "lR",
+    "six_alike": "lm", "six_least": "l", "six_back": "l", "six_backAlike": "l", "six_others": "l", "six_classes": "l",
 }
+LISTS = "RWP"
 for call_name in NUMBERS:
     if call_name not in GIVEN:
         GIVEN[call_name] = OF_EACH[call_name.split("_")[1]]
 
-CHANGES = ["league", "copy", "drop", "joined", "into", "without"] + [
-    name for name in NUMBERS if name.split("_")[-1] in ("games", "turn", "make", "turnThree")
-] + ["one_start", "two_start", "three_start"]
+CHANGES = ["league", "copy", "drop", "joined", "into", "without"]
+CHANGES += [f"{stage}_{name}" for stage in STAGES for name in ("start", "games", "turn")]
+CHANGES += ["two_make", "two_turnThree", "five_squares", "six_rename", "six_back"]
 
 
 def flat(call):
@@ -119,6 +134,24 @@ def one_of_league(players, number, *call):
     return of_league(players, number, call)[0]
 
 
+def asking(k, players):
+    """Calls of all stages that ask about league k of so many players, and change nothing."""
+    some = {"p": list(range(players)), "m": [0, 2 ** (players * (players - 1) // 2) - 1], "c": [3, players], "k": [0, 1, 2],
+            "s": [0, 1, 2 ** players - 2, 2 ** players - 1], "t": [players], "e": [players],
+            "R": [list(range(players))[::-1]], "W": [list(range(players))], "P": [list(range(1, players))]}
+    names = [name for name in NUMBERS if "_" in name and name not in CHANGES]
+    return [(name, k, *given) for name in names for given in product(*[some[kind] for kind in GIVEN[name][1:]])]
+
+
+def all_told(begin, k, players):
+    """What all these calls answer of league k behind the calls that begin each line."""
+    calls = asking(k, players)
+    told = []
+    for at in range(0, len(calls), 150):
+        told += ask(*begin, *calls[at:at + 150])[len(begin):]
+    return told
+
+
 def number_of(players, beaten):
     """The games' number of the league in which the pairs told, and only these, are won by the greater number."""
     games = list(combinations(range(players), 2))
@@ -130,6 +163,8 @@ CIRCLE = 2
 CIRCLE_BACK = 5
 # Of four: all as by their numbers, but 3 beat 0.
 FOUR = 4
+# Of four: 0 beat all others, who are a circle.
+WINNER_AHEAD = number_of(4, [(1, 3)])
 # Of seven: i beat the one who is 1, 2 or 4 behind, round and round.
 SEVEN = number_of(7, [(i, j) for i, j in combinations(range(7), 2) if j - i not in (1, 2, 4)])
 
@@ -243,6 +278,92 @@ def turns_told(league, goal):
     raise AssertionError("never done")
 
 
+@lru_cache(maxsize=None)
+def order_told(league, members):
+    """The one order of these in which each beat all behind, if there is one."""
+    for row in permutations(members):
+        if all(pair in league[1] for pair in combinations(row, 2)):
+            return list(row)
+    return None
+
+
+def members_told(number):
+    return tuple(i for i in range(7) if number >> i & 1)
+
+
+@lru_cache(maxsize=None)
+def orders_told(league):
+    """The numbers of all sets in order."""
+    return [s for s in range(2 ** league[0]) if order_told(league, members_told(s)) is not None]
+
+
+def most_told(sets):
+    return max(bin(s).count("1") for s in sets)
+
+
+def grown_told(league, rest):
+    if not rest:
+        return []
+    wins = {i: len([j for j in rest if (i, j) in league[1]]) for i in rest}
+    player = min(rest, key=lambda i: (-wins[i], i))
+    return [player] + grown_told(league, [j for j in rest if (player, j) in league[1]])
+
+
+def left_told(league, members):
+    reached = set(members) | {loser for winner, loser in league[1] if winner in members}
+    return sorted(set(range(league[0])) - reached)
+
+
+@lru_cache(maxsize=None)
+def enough_told(league):
+    """All sets of the fewest players who leave nobody, by how many there are and then by their numbers."""
+    for size in range(league[0] + 1):
+        found = [s for s in range(2 ** league[0]) if len(members_told(s)) == size]
+        found = [s for s in found if left_told(league, members_told(s)) == []]
+        if found:
+            return found
+
+
+def over_told(league, members):
+    return [i for i in range(league[0]) if i not in members and {(i, j) for j in members} <= league[1]]
+
+
+def any_told(league, size):
+    return all(over_told(league, members) for members in combinations(range(league[0]), size))
+
+
+def renamed_told(league, way):
+    players, won = league
+    return players, frozenset((i, j) for i, j in permutations(range(players), 2) if (way[i], way[j]) in won)
+
+
+@lru_cache(maxsize=None)
+def all_renamed_told(league):
+    """The games' numbers of the league renamed by all ways."""
+    players, won = league
+    return frozenset(sum(2 ** k for k, (i, j) in enumerate(games_in_order(players)) if (way[j], way[i]) in won)
+                     for way in permutations(range(players)))
+
+
+@lru_cache(maxsize=None)
+def ways_told(league, goal):
+    pairs = games_in_order(league[0])
+    return [list(way) for way in permutations(range(league[0]))
+            if all(((i, j) in goal[1]) == ((way[i], way[j]) in league[1]) for i, j in pairs)]
+
+
+def all_back(league):
+    return league[0], frozenset((loser, winner) for winner, loser in league[1])
+
+
+def ring_of(way, i):
+    """How many steps by the way it takes from i back to i."""
+    steps, at = 1, way[i]
+    while at != i:
+        steps, at = steps + 1, way[at]
+    return steps
+
+
 class Reference:
     """One object; each call has its own method, which answers a list or refuses."""
 
@@ -258,7 +379,7 @@ class Reference:
             return [0]
         if self.leagues is None:
             return [-11]
-        earlier = deepcopy(self.leagues)
+        earlier = list(self.leagues)
         try:
             answer = self.answered(name, list(call[1:]))
         except Refused as refusal:
@@ -275,10 +396,11 @@ class Reference:
             return getattr(self, name)(*given)
         refuse(given[0] >= len(self.leagues), -2)
         stage, call = name.split("_")
-        method = getattr(self, call, None) if call in OF_EACH else None
-        if method is None or call == "state":
-            method = getattr(self, name if call != "state" else "stage_state")
-        return method(*given)
+        refuse(stage == "six" and self.leagues[given[0]][0] == 7, -28)
+        refuse(name == "six_start" and given[1] == 7, -22)
+        if call == "state":
+            return self.stage_state(*given)
+        return getattr(self, call if call in OF_EACH else name)(*given)
 
     def has(self, *numbers):
         refuse(any(k >= len(self.leagues) for k in numbers), -2)
@@ -348,12 +470,13 @@ class Reference:
 
     def alike(self, j, k):
         self.both(j, k)
-        (players, won), (players, goal) = self.leagues[j], self.leagues[k]
-        refuse(players > 6, -22)
-        for way in permutations(range(players)):
-            if all(((i, h) in goal) == ((way[i], way[h]) in won) for i, h in permutations(range(players), 2)):
-                return [players] + list(way)
-        raise Refused(-33)
+        refuse(self.leagues[j][0] > 6, -22)
+        return self.first_way(self.leagues[j], self.leagues[k])
+
+    def first_way(self, league, goal):
+        ways = ways_told(league, goal)
+        refuse(not ways, -33)
+        return [league[0]] + min(ways)
 
     def undo(self):
         refuse(not self.before, -6)
@@ -524,6 +647,183 @@ class Reference:
         found = comb(len(wins), 3) - sum(comb(w, 2) for w in wins)
         refuse(found < 0, -33)
         return [found]
+
+    def three_most(self, k, n):
+        refuse(n > 1000, -22)
+        # Most there are where wins are level.
+        return [comb(n, 3) - sum(comb((n - 1 + i % 2) // 2, 2) for i in range(n))]
+
+    def three_level(self, k):
+        table = table_told(self.leagues[k])
+        return [int(all(abs(one - other) <= 1 for one, other in product(table, repeat=2)))]
+
+    def three_calm(self, k):
+        busy = {i for three in threes_told(self.leagues[k]) for i in three}
+        calm = [i for i in range(self.leagues[k][0]) if i not in busy]
+        return [len(calm)] + calm
+
+    def three_fours(self, k):
+        threes = threes_told(self.leagues[k])
+        many = [sum(1 for three in threes if set(three) <= set(four))
+                for four in combinations(range(self.leagues[k][0]), 4)]
+        return [len(many), many.count(0), many.count(1), many.count(2)]
+
+    def three_within(self, k, players):
+        self.player(k, *players)
+        return [sum(1 for three in threes_told(self.leagues[k]) if set(three) <= set(players))]
+
+    def three_busiest(self, k):
+        often = [self.three_of(k, i)[0] for i in range(self.leagues[k][0])]
+        return min([i, many] for i, many in enumerate(often) if many == max(often))
+
+    def set_of(self, k, s):
+        refuse(s >= 2 ** self.leagues[k][0], -22)
+        return members_told(s)
+
+    def four_inOrder(self, k, s):
+        return [int(order_told(self.leagues[k], self.set_of(k, s)) is not None)]
+
+    def four_order(self, k, s):
+        order = order_told(self.leagues[k], self.set_of(k, s))
+        refuse(order is None, -33)
+        return [len(order)] + order
+
+    def four_adds(self, k, s):
+        self.four_order(k, s)
+        added = [i for i in range(self.leagues[k][0]) if not s >> i & 1 and s + 2 ** i in orders_told(self.leagues[k])]
+        return [len(added)] + added
+
+    def four_most(self, k):
+        return [most_told(orders_told(self.leagues[k]))]
+
+    def four_best(self, k):
+        most = self.four_most(k)[0]
+        best = min(s for s in orders_told(self.leagues[k]) if len(members_told(s)) == most)
+        return [best] + order_told(self.leagues[k], members_told(best))
+
+    def four_many(self, k, size):
+        return [sum(1 for s in orders_told(self.leagues[k]) if len(members_told(s)) == size)]
+
+    def four_all(self, k):
+        return [len(orders_told(self.leagues[k]))]
+
+    def four_among(self, k, i):
+        self.player(k, i)
+        return [most_told(s for s in orders_told(self.leagues[k]) if i in members_told(s))]
+
+    def four_leave(self, k):
+        players = range(self.leagues[k][0])
+        return [min(len(players) - len(kept) for size in range(len(players) + 1)
+                    for kept in combinations(players, size) if order_told(self.leagues[k], kept) is not None)]
+
+    def four_grown(self, k):
+        grown = grown_told(self.leagues[k], list(range(self.leagues[k][0])))
+        return [len(grown)] + grown
+
+    def four_sure(self, k, n):
+        refuse(n > 1000, -22)
+        return [sum(1 for power in (1, 2, 4, 8, 16, 32, 64, 128, 256, 512, 1024) if power <= n)]
+
+    def five_squares(self, k, n):
+        refuse(n not in (3, 7), -22)
+        steps = {3: (1,), 7: (1, 2, 4)}[n]
+        self.leagues[k] = n, frozenset((i, j) if j - i in steps else (j, i) for i, j in combinations(range(n), 2))
+        return [to_number(self.leagues[k])]
+
+    def five_covers(self, k, s):
+        return [int(self.five_left(k, s) == [0])]
+
+    def five_left(self, k, s):
+        left = left_told(self.leagues[k], self.set_of(k, s))
+        return [len(left)] + left
+
+    def five_fewest(self, k):
+        return [len(members_told(enough_told(self.leagues[k])[0]))]
+
+    def five_first(self, k):
+        first = min(enough_told(self.leagues[k]))
+        return [first] + list(members_told(first))
+
+    def five_many(self, k):
+        return [len(enough_told(self.leagues[k]))]
+
+    def five_greedy(self, k):
+        players, won = self.leagues[k]
+        taken, left = [], set(range(players))
+        while left:
+            takes = [len(left & ({j for j in range(players) if (i, j) in won} | {i})) for i in range(players)]
+            taken.append(takes.index(max(takes)))
+            left = set(left_told(self.leagues[k], taken))
+        return [len(taken)] + taken
+
+    def five_over(self, k, s):
+        over = over_told(self.leagues[k], self.set_of(k, s))
+        return [len(over)] + over
+
+    def five_any(self, k, size):
+        # Of more players than there are there is no set, and so none that nobody is over.
+        return [int(size > self.leagues[k][0] or any_told(self.leagues[k], size))]
+
+    def five_deep(self, k):
+        so = [any_told(self.leagues[k], size) for size in range(self.leagues[k][0] + 1)]
+        return [max(size for size in range(len(so)) if all(so[:size + 1]))]
+
+    def five_needs(self, k, power):
+        refuse(power > 20, -22)
+        return [2 ** (power + 1) - 1]
+
+    def five_bare(self, k):
+        bare = [i for i, wins in enumerate(table_told(self.leagues[k])) if wins == 0]
+        return [len(bare)] + bare
+
+    def six_selves(self, k):
+        return [len(ways_told(self.leagues[k], self.leagues[k]))]
+
+    def six_nth(self, k, place):
+        ways = ways_told(self.leagues[k], self.leagues[k])
+        refuse(place >= len(ways), -33)
+        return [self.leagues[k][0]] + ways[place]
+
+    def six_order(self, k, place):
+        way = self.six_nth(k, place)[1:]
+        return [lcm(*[ring_of(way, i) for i in range(len(way))])]
+
+    def six_alikeTo(self, k, i):
+        self.player(k, i)
+        alike = sorted({way[i] for way in ways_told(self.leagues[k], self.leagues[k])})
+        return [len(alike)] + alike
+
+    def six_same(self, k, i, j):
+        self.player(k, i, j)
+        return [int(any(way[i] == j for way in ways_told(self.leagues[k], self.leagues[k])))]
+
+    def six_rename(self, k, way):
+        refuse(tuple(way) not in permutations(range(self.leagues[k][0])), -22)
+        self.leagues[k] = renamed_told(self.leagues[k], way)
+        return [to_number(self.leagues[k])]
+
+    def six_alike(self, k, m):
+        self.number(k, m)
+        return self.first_way(self.leagues[k], by_number(self.leagues[k][0], m))
+
+    def six_least(self, k):
+        return [min(all_renamed_told(self.leagues[k]))]
+
+    def six_back(self, k):
+        self.leagues[k] = all_back(self.leagues[k])
+        return [to_number(self.leagues[k])]
+
+    def six_backAlike(self, k):
+        return [int(bool(ways_told(self.leagues[k], all_back(self.leagues[k]))))]
+
+    def six_others(self, k):
+        return [factorial(self.leagues[k][0]) // self.six_selves(k)[0]]
+
+    def six_classes(self, k):
+        players = self.leagues[k][0]
+        refuse(players > 4, -28)
+        leagues = [by_number(players, m) for m in range(2 ** comb(players, 2))]
+        return [len({all_renamed_told(league) for league in leagues})]
 
 
 def reference(*calls):

@@ -15,7 +15,7 @@ EXPRESSIONS = (ast.BoolOp, ast.BinOp, ast.UnaryOp, ast.Lambda, ast.IfExp, ast.Di
 OPERATORS = (ast.And, ast.Or, ast.Add, ast.Sub, ast.Mult, ast.FloorDiv, ast.Mod, ast.Not, ast.USub, ast.Eq, ast.NotEq,
              ast.Lt, ast.LtE, ast.Gt, ast.GtE, ast.In, ast.NotIn, ast.Is, ast.IsNot)
 OTHERS = (ast.Module, ast.Load, ast.Store, ast.arguments, ast.arg, ast.keyword, ast.alias, ast.comprehension)
-BUILT_IN = "len range enumerate sum max any sorted list tuple".split()
+BUILT_IN = "len range enumerate sum min max any all sorted list tuple set".split()
 OWN_METHODS = "append count extend index insert pop".split()
 NO_WORDS = ("type typing typing_extensions enum Enum IntEnum StrEnum Flag IntFlag Generic Protocol ABC ABCMeta "
             "namedtuple NamedTuple TypedDict TYPE_CHECKING abstractmethod").split()
@@ -143,6 +143,14 @@ class Language(unittest.TestCase):
                        if isinstance(node.func, ast.Name) and node.func.id in ("list", "tuple", "sorted", "sum")]
             for node in kept:
                 self.assertTrue(any(node is other for other in walked), ast.dump(node))
+
+    def test_sets_are_made_and_told_on_the_spot(self):
+        for path, text, tree in self.each():
+            called = [node for node in nodes(tree, ast.Call) if isinstance(node.func, ast.Name)]
+            inner = [node.args[0] for node in called if node.func.id in ("sorted", "len") and node.keywords == []]
+            for node in called:
+                if node.func.id == "set":
+                    self.assertTrue(any(node is other for other in inner), ast.dump(node))
 
     def test_imports(self):
         defined = {}

@@ -2,7 +2,7 @@
 
 import unittest
 
-from tests.helper import CIRCLE, CIRCLE_BACK, FOUR, GREATEST, ask, last, number_of
+from tests.helper import CIRCLE, CIRCLE_BACK, FOUR, GREATEST, SEVEN, STAGES, all_told, ask, last, number_of
 
 START = ("start",)
 FULL = (("league", 2), ("league", 2), ("league", 2))
@@ -57,6 +57,25 @@ class Leagues(unittest.TestCase):
                    ("three_turn", 0, 0, 2), ("two_table", 0), ("one_start", 0, 2), ("two_table", 0),
                    ("three_wins", 0, 0), ("three_start", 0, 7), ("state",))
         self.assertEqual(told[2:], [[3], [3], [1], [0], [3, 2, 1, 0], [0], [2, 1, 0], [1], [0], [1, 5, 0, 7]])
+
+    def test_what_a_stage_changes_is_so_for_all(self):
+        # Each change, in a league 1 of five players in which the lesser number won, and what league it is then.
+        changes = [((f"{stage}_games", 1, 516), 5, 516) for stage in STAGES]
+        changes += [((f"{stage}_turn", 1, 1, 3), 5, number_of(5, [(1, 3)])) for stage in STAGES]
+        changes += [((f"{stage}_start", 1, 4), 4, 0) for stage in STAGES]
+        changes += [(("two_make", 1, [0, 1, 2, 3, 4]), 5, 1023), (("five_squares", 1, 3), 3, CIRCLE),
+                    (("five_squares", 1, 7), 7, SEVEN), (("six_rename", 1, [4, 3, 2, 1, 0]), 5, 1023),
+                    (("six_back", 1), 5, 1023)]
+        for change, players, number in changes:
+            with self.subTest(change=change):
+                told = all_told((START, ("league", 3), ("league", 5), change), 1, players)
+                plain = all_told((START, ("league", 2), ("league", players), ("one_games", 1, number)), 1, players)
+                self.assertEqual(told, plain)
+
+    def test_a_round_of_three_turned_is_so_for_all(self):
+        told = all_told((START, ("league", 4), ("four_games", 0, FOUR), ("two_turnThree", 0, 1)), 0, 4)
+        plain = all_told((START, ("league", 4), ("one_games", 0, number_of(4, [(0, 2), (2, 3)]))), 0, 4)
+        self.assertEqual(told, plain)
 
 
 class Joined(unittest.TestCase):
@@ -142,6 +161,23 @@ class MadeOfOthers(unittest.TestCase):
         told = ask(START, ("league", 2), ("league", 1), ("joined", 0, 1), ("into", 0, 1), ("one_games", 0, 1),
                    ("one_state", 2), ("one_state", 3))
         self.assertEqual(told[6:], [[3, 0], [2, 0]])
+
+
+    def test_leagues_made_of_others_are_told_of_by_every_stage(self):
+        begin = (START, ("league", 3), ("five_squares", 0, 3), ("league", 2), ("six_back", 1))
+        for change in (("joined", 0, 1), ("joined", 1, 0), ("joined", 0, 0), ("joined", 1, 1), ("into", 0, 1),
+                       ("into", 1, 0), ("into", 1, 1), ("without", 0, 1), ("without", 1, 0), ("copy", 0), ("copy", 1)):
+            with self.subTest(change=change):
+                place, players, number = last(*begin, change)
+                self.assertEqual(place, 2)
+                plain = all_told((START, ("league", players), ("one_games", 0, number)), 0, players)
+                for more, k in ((), 2), ((("drop", 0),), 1), ((("drop", 0), ("undo",)), 2), ((("undo",), ("redo",)), 2):
+                    self.assertEqual(all_told((*begin, change, *more), k, players), plain)
+
+    def test_seven_made_of_others_are_told_of_by_every_stage(self):
+        begin = (START, ("league", 3), ("five_squares", 0, 3), ("joined", 0, 0), ("league", 1), ("joined", 1, 2))
+        plain = all_told((START, ("league", 7), ("one_games", 0, number_of(7, [(0, 2), (3, 5)]))), 0, 7)
+        self.assertEqual(all_told(begin, 3, 7), plain)
 
 
 class HeldAgainst(unittest.TestCase):
